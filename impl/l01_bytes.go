@@ -151,10 +151,16 @@ func PutText(t string) string {
 	return joinTexts(PutNum(int64(len(t))), t)
 }
 
-func joinTexts(a string, b string) string {
-	out := make([]byte, len(a)+len(b))
-	copy(out, a)
-	copy(out[len(a):], b)
+func joinTexts(parts ...string) string {
+	size := 0
+	for _, part := range parts {
+		size += len(part)
+	}
+	out := make([]byte, size)
+	at := 0
+	for _, part := range parts {
+		at += copy(out[at:], part)
+	}
 	return string(out)
 }
 
